@@ -1,0 +1,1 @@
+"""Answerparts: asks of many items that are answered in part."""
