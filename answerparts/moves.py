@@ -4,7 +4,7 @@ What is left of this is (lost, breaks, fails): how many answers can still be los
 off, and in how many asks items can still fail.
 """
 
-from answerparts.programs import LISTS_AT
+from answerparts.programs import ASK_WORDS, LISTS_AT
 
 # Instead of None, so that numbers can be compared: no world has a greater one.
 ANY = 4
@@ -14,9 +14,19 @@ SOME = "some"
 NONE = "none"
 
 
+def as_numbers(bounds):
+    """Return what is left where None stands for any number."""
+    return tuple([ANY if bound is None else bound for bound in bounds])
+
+
+def as_bounds(left):
+    """Return what is left with None for any number."""
+    return tuple([None if number == ANY else number for number in left])
+
+
 def left_in(world):
     """Return what a world allows at first."""
-    return tuple([ANY if bound is None else bound for bound in (world.lost, world.breaks, world.fails)])
+    return as_numbers((world.lost, world.breaks, world.fails))
 
 
 def one_less(number):
@@ -24,10 +34,22 @@ def one_less(number):
     return number if number == ANY else number - 1
 
 
+def behind_loss(left):
+    """Return what is left when an answer is lost, None if none can be."""
+    lost, breaks, fails = left
+    return None if lost == 0 else (one_less(lost), breaks, fails)
+
+
 def behind_break(left):
     """Return what is left when the program has broken off, None if it cannot."""
     lost, breaks, fails = left
     return None if breaks == 0 else (lost, one_less(breaks), fails)
+
+
+def behind_failure(left):
+    """Return what is left when items of an ask have failed, None if they cannot."""
+    lost, breaks, fails = left
+    return None if fails == 0 else (lost, breaks, one_less(fails))
 
 
 def has_all(numbers, others):
@@ -44,16 +66,24 @@ def turns_of(word, world):
         return [("part", ())]
     if word == "look":
         return [("answer", ()), ("lost", ())]
-    if word not in ("send", "keyed"):
+    if word not in ASK_WORDS:
         return [(None, ())]
-    if world.mode == "whole":
-        answered = [("answer", (True,)), ("answer", (False,))]
-        lost = [("lost", (False,)), ("lost", (True,))]
-    else:
-        answered = [("answer", (True,)), ("answer", (True, False))]
-        lost = [("lost", (True, False))]
+    means = [(True,), (False,)] if world.mode == "whole" else [(True, False)]
+    return [(event, mean) for event in ("answer", "lost") for mean in means]
+
+
+def decisive_turns_of(word, world):
+    """Return the turns of a statement of this word to which all that can become of an item can be put down."""
+    if word not in ASK_WORDS:
+        return turns_of(word, world)
+    turns = turns_of(word, world)
+    answered = [turn for turn in turns if turn[0] == "answer"]
+    if world.mode == "each":
+        # Where none fails, nothing is used up.
+        answered = [("answer", (True,))] + answered
     # What a lost ask could do at once it can do late as well.
-    return answered + ([("lost", (False,))] if world.late else lost)
+    lost = [("lost", (False,))] if world.late else [turn for turn in turns if turn[0] == "lost"]
+    return answered + lost
 
 
 def tests_of(word, turn):
@@ -86,9 +116,6 @@ class Move:
 
     def rest(self, left):
         """Return what is left behind the move, None if too little is left for it."""
-        lost, breaks, fails = left
         if self.turn[0] == "lost":
-            return None if lost == 0 else (one_less(lost), breaks, fails)
-        if self._can_fail:
-            return None if fails == 0 else (lost, breaks, one_less(fails))
-        return left
+            return behind_loss(left)
+        return behind_failure(left) if self._can_fail else left

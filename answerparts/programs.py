@@ -5,6 +5,7 @@ from answerparts.errors import InvalidBlock, InvalidLists, NoStatement
 
 LETTERS = "abcdefghijklmnopqrstuvwxyz"
 TOLD_WORDS = ("done", "failed")
+ASK_WORDS = ("send", "keyed")
 MOST_LETTERS = 8
 MOST_LISTS = 4
 MOST_ROUNDS = 3

@@ -4,11 +4,12 @@ One item is watched, of which the whole thing counts. Of the others only their s
 have numbers.
 """
 
-from answerparts.flow import END, first_place, place_after
-from answerparts.moves import NONE, Move, left_in, tests_of, turns_of
+from answerparts.moves import decisive_turns_of, left_in
+from answerparts.nodes import Nodes
 from answerparts.pools import Pool
+from answerparts.programs import LISTS_AT
 from answerparts.shadows import Shadows
-from answerparts.things import outcomes, put
+from answerparts.things import new_thing, outcomes, put_back
 
 
 def distinct(rows):
@@ -25,19 +26,17 @@ class Space:
     def __init__(self, program, world):
         self._program = program
         self._world = world
-        self._nodes = Pool()
+        self._nodes = Nodes(program, {word: decisive_turns_of(word, world) for word in LISTS_AT})
         self._things = Pool()
-        self._moves_at = {}
-        self._many_moves = 0
         self._shares = {}
         self._fates = {}
         self.shadows = Shadows(program, world)
-        first = (program.lists[0], 0, False, 0, False, None)
+        first = new_thing(program)
         self.first_thing = self._thing_number(first)
         self.first_shadow = self.shadows.number_of(first)
         self.first_left = left_in(world)
-        self.begin = self._nodes.number_of(first_place(program))
-        self.end = self._nodes.number_of(END)
+        self.begin = self._nodes.begin
+        self.end = self._nodes.end
 
     def thing_of(self, number):
         """Return the watched thing that has a number."""
@@ -45,11 +44,7 @@ class Space:
 
     def moves(self, node):
         """Return the moves from a node."""
-        if node == self.end:
-            return []
-        if node not in self._moves_at:
-            self._moves_at[node] = self._new_moves(self._nodes.value_of(node))
-        return self._moves_at[node]
+        return self._nodes.moves(node)
 
     def shares(self, move, shadow):
         """Return what a move can make of a shadow: rows (shadow, named, late word), as outcomes has them."""
@@ -69,11 +64,11 @@ class Space:
 
     def broken_shadow(self, shadow):
         """Return the shadow that a break makes of one."""
-        return self.shadows.number_of(self._put_back(self.shadows.thing_of(shadow)))
+        return self.shadows.number_of(put_back(self.shadows.thing_of(shadow), self._program))
 
     def broken_thing(self, thing):
         """Return the watched thing that a break makes of one."""
-        return self._thing_number(self._put_back(self.thing_of(thing)))
+        return self._thing_number(put_back(self.thing_of(thing), self._program))
 
     def results_of(self, thing):
         """Return the results that a watched thing can have behind the end of a run, where it can still be done late."""
@@ -89,19 +84,3 @@ class Space:
             is_known = False
             is_keyed = is_keyed and sends < 2 - count
         return self._things.number_of((name, count, is_known, sends, is_keyed, told))
-
-    def _put_back(self, thing):
-        if thing[0] is None or thing[0] in self._program.kept:
-            return thing
-        return put(thing, self._program.lists[0])
-
-    def _new_moves(self, place):
-        statement = self._program[place[0]]
-        moves = []
-        for turn in turns_of(statement[0], self._world):
-            for test in tests_of(statement[0], turn):
-                after = place_after(self._program, place, test != NONE, turn[0] == "lost")
-                target = self._nodes.number_of(after)
-                moves.append(Move(self._many_moves, place[0], statement, turn, test, target))
-                self._many_moves += 1
-        return moves

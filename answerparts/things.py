@@ -7,6 +7,14 @@ which it is pending; it is keyed if it is pending of a keyed ask; the word is wh
 Late doings are put off until a step depends on them: a "look", or a keyed ask whose items fail together.
 """
 
+from answerparts.programs import ASK_WORDS
+
+
+def new_thing(program):
+    """Return what each item of a program is at first."""
+    return (program.lists[0], 0, False, 0, False, None)
+
+
 def split_thing(thing):
     """Return what a thing is, and the numbers of what it is pending of, of which more are never worse."""
     name, count, is_known, sends, is_keyed, told = thing
@@ -16,6 +24,13 @@ def split_thing(thing):
 def put(thing, name):
     """Return a thing in another list."""
     return (name,) + thing[1:]
+
+
+def put_back(thing, program):
+    """Return what a thing is when the program has broken off."""
+    if thing[0] is None or thing[0] in program.kept:
+        return thing
+    return put(thing, program.lists[0])
 
 
 def done_by(thing, word):
@@ -87,10 +102,20 @@ def asked(statement, turn, thing, late):
         after = done_by(thing, word) if is_done else thing
         if event == "answer":
             after = put(after, statement[2] if is_done else statement[3])
-        elif late:
+        elif late and not is_done:
             after = owed_by(after, word)
         rows.append((after, is_done, None))
     # Where all fail together, what was done late ahead of the ask is known, and does not.
     if word == "keyed" and thing[4] and event == "answer" and True not in means:
         rows.append((put(done_late_by(thing, word), statement[2]), False, word))
     return rows
+
+
+def is_failure(statement, turn, thing, outcome):
+    """Tell whether an outcome of a thing, one of those that outcomes returns, is that an answered ask failed for it."""
+    word = statement[0]
+    if word not in ASK_WORDS or turn[0] != "answer" or thing[0] != statement[1]:
+        return False
+    _, is_done, late = outcome
+    is_known = word == "keyed" and (thing[2] or late is not None)
+    return not is_done and not is_known
