@@ -1,6 +1,5 @@
 """Desks, which keep a program and a world, and what was done to them."""
 
-from answerparts.errors import InvalidLists
 from answerparts.programs import Program
 from answerparts.reaching import results
 
@@ -48,8 +47,7 @@ class Desk:
     def keep(self, name):
         """Keep one list more."""
         program = self.program
-        if name not in program.lists or name in program.kept:
-            raise InvalidLists("there is no such list, or it is kept")
+        # This raises InvalidLists if there is no such list, or it is kept: then it would stand there twice.
         self._edit(Program(program.lists, program.block, program.kept + (name,)), self.world)
 
     def go_to(self, world):

@@ -63,7 +63,7 @@ class Outline:
 
     def made(self):
         """Return the lists, the block and the kept lists of the program, None if lines are missing."""
-        if self._head is None or not self._close_to(1) or not self._parts[0].has_lines():
+        if not self._close_to(1) or not self._parts[0].has_lines():
             return None
         return self._head[0], tuple(self._parts[0].statements), self._head[1]
 

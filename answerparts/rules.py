@@ -63,13 +63,13 @@ class Rules:
         return row[0] == self._nodes.end and (watched[1], watched[5]) == result
 
     def numbered(self, row):
-        """Return a row that is written as in papers."""
+        """Return, in numbers, a row that is written as papers have it."""
         path, rounds, bounds, shadows, watched = row
         others = with_bits([self._places[shadow] for shadow in shadows])
         return (self._nodes.number_of((path, rounds)), as_numbers(bounds), others, self._things.number_of(watched))
 
     def written(self, row):
-        """Return a row as papers have it."""
+        """Return, as papers have it, a row that is in numbers."""
         node, left, others, thing = row
         shadows = tuple([self._shadows[at] for at in bits_of(others)])
         return self._nodes.place_of(node) + (as_bounds(left), shadows, self._things.value_of(thing))
@@ -97,7 +97,7 @@ class Rules:
     def _behind_move(self, row, move):
         _, left, others, number = row
         touched = 0 if move.name is None else others & self._inside[move.name]
-        has_items = touched != 0 or self._things.value_of(number)[0] == move.name
+        has_items = move.name is not None and (touched != 0 or self._things.value_of(number)[0] == move.name)
         rest = behind_loss(left) if move.turn[0] == "lost" else left
         if rest is None or not move.holds(has_items):
             return []

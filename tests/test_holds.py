@@ -190,6 +190,12 @@ class AnyRows(unittest.TestCase):
         for value in odd_but():
             self.refused(at_end(others=(value,)))
             self.refused(at_end(others=(("a", 0, (value,)),)))
+            self.refused(at_end(watched=(None, 0, False, 0, False, value)))
+            self.refused(at_end(rounds=(value,)), at_end())
+        for value in odd_but(0, 1):
+            self.refused(at_end(path=(value,)), at_end())
+            self.refused(at_end(path=(0, value, 0), rounds=(1,)), at_end())
+            self.refused(at_end(path=(0, 0, 0), rounds=(value,)), at_end())
 
     def test_true_is_not_1(self):
         """What is equal to a row of the paper, but has values of another kind, is none."""

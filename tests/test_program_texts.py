@@ -197,7 +197,8 @@ class Wrong(unittest.TestCase):
             "lists a kept  b", "lists a, kept b", "lists kept kept", "lists a kept b c",
             "lists a kept b, ", "lists a kept b kept c", "lists a Kept b", "lists a keep b", "lists abcdefghi",
             "lists a, abcdefghi", "lists A", "lists a1", "lists a_b", "lists 1", "lists a kept B", "lists \u00e9",
-            "lists a kept abcdefghi", "lists a\t", "lists\ta", "lists a\r", "pass", "end", "lists a, b kept kept kept",
+            "lists a kept abcdefghi", "lists A kept b", "lists abcdefghi kept b", "lists a,b kept b", "lists a\t",
+            "lists\ta", "lists a\r", "pass", "end", "lists a, b kept kept kept",
         ):
             self.wrong_lines(1, line, "pass")
 
